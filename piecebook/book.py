@@ -1,29 +1,32 @@
 """The book: its calls, and the answers to a list of calls."""
 
-from piecebook.limits import FULL, MOST_DEPTH, MOST_PIECES, MOST_PLACE, MOST_SIZE, MOST_TICK, MOST_WHO
-from piecebook.limits import NOT_FREE, NOT_THERE, OUT_OF_RANGE, SUM_END, TOO_GREAT, within
+from piecebook.calls import LINES, UnknownCall, answer_to, end_given, first_given
+from piecebook.limits import FULL, MOST_ASKED, MOST_DEPTH, MOST_MARKS, MOST_PIECES, MOST_PLACE, MOST_RATE, MOST_SIZE
+from piecebook.limits import MOST_TEXT, MOST_TICK, MOST_WHO, NOT_FREE, NOT_THERE, OUT_OF_RANGE, SUM_END, TOO_GREAT
+from piecebook.limits import WHOLE, within
+from piecebook.picks import Picks
 from piecebook.pieces import NOWHERE, Piece, Pieces
-from piecebook.ways import Ways
+from piecebook.rows import Rows
+from piecebook.shares import least_reaching
+from piecebook.ways import ALL_LIVE, OWN_MADE, Ways
 
-BEGIN = 0
-ENTER = 1
-LEAVE = 2
-UNWIND = 3
-TICK = 4
-MADE = 5
-WENT = 6
-MOVED = 7
-NOW = 8
-NODE = 9
-FIND = 10
-PATH = 11
-
-# how many whole numbers stand behind each call's own; find has a row instead
-NUMBERS_BEHIND = (0, 1, 0, 1, 1, 2, 1, 3, 0, 1, 0, 1)
+# what share goes by
+PIECES_BY_SIZE = 0
+BYTES_BY_SIZE = 1
+PIECES_BY_AGE = 2
 
 
-class UnknownCall(ValueError):
-    """A list of calls holds a number that stands for no call."""
+def joined(rows):
+    """The numbers of all rows, one row behind another."""
+    numbers = []
+    for row in rows:
+        numbers.extend(row)
+    return numbers
+
+
+def counted(rows):
+    """How many rows there are, then their numbers."""
+    return [len(rows)] + joined(rows)
 
 
 class Book:
@@ -36,6 +39,9 @@ class Book:
         self.time = 0
         self.ways = Ways()
         self.pieces = Pieces()
+        self.rows = Rows()
+        self.picks = Picks()
+        self.marks = []
         self.live_bytes = 0
         self.peak_bytes = 0
         self.peak_time = 0
@@ -79,6 +85,8 @@ class Book:
         self.made_pieces += 1
         self.made_bytes += size
         self.ways.count_made(piece.owner, size)
+        self.rows.note_made(size)
+        self.picks.note_made(piece.owner, size)
         self.count_live(piece.owner, 1, size)
         return [piece.number]
 
@@ -88,9 +96,11 @@ class Book:
         if not self.pieces.has(place):
             return [NOT_THERE]
         piece = self.pieces.take(place)
+        age = self.time - piece.born
         self.went_pieces += 1
+        self.rows.note_went(piece.size, age)
         self.count_live(piece.owner, -1, -piece.size)
-        return [self.time - piece.born]
+        return [age]
 
     def moved(self, place, new_place, new_size):
         if not within(place, MOST_PLACE) or not within(new_place, MOST_PLACE) or not within(new_size, MOST_SIZE):
@@ -101,6 +111,7 @@ class Book:
             return [NOT_FREE]
         piece = self.pieces.take(place)
         more_bytes = new_size - piece.size
+        self.rows.note_moved(piece.size, new_size)
         piece.place = new_place
         piece.size = new_size
         self.pieces.put(piece)
@@ -138,54 +149,73 @@ class Book:
         whos = self.ways.whos(k)
         return [len(whos)] + whos
 
+    def sizes(self):
+        return [0] + joined(self.rows.by_size())
 
-def answer_to_change(book, call, given):
-    """The answer to one of the calls that may change the book."""
-    if call == BEGIN:
-        return book.begin()
-    if call == ENTER:
-        return book.enter(given[0])
-    if call == LEAVE:
-        return book.leave()
-    if call == UNWIND:
-        return book.unwind(given[0])
-    if call == TICK:
-        return book.tick(given[0])
-    if call == MADE:
-        return book.made(given[0], given[1])
-    if call == WENT:
-        return book.went(given[0])
-    return book.moved(given[0], given[1], given[2])
+    def ages(self):
+        return [0] + joined(self.rows.by_age())
 
+    def oldest(self, k):
+        if not within(k, MOST_ASKED):
+            return [OUT_OF_RANGE]
+        found = self.pieces.eldest(k)
+        return counted([(piece.place, piece.size, piece.owner, self.time - piece.born) for piece in found])
 
-def answer_to_question(book, call, given):
-    """The answer to one of the calls that only ask."""
-    if call == NOW:
-        return book.now()
-    if call == NODE:
-        return book.node(given[0])
-    if call == FIND:
-        return book.find(given)
-    return book.path(given[0])
+    def top(self, by, k):
+        if not within(by, ALL_LIVE) or not within(k, MOST_ASKED):
+            return [OUT_OF_RANGE]
+        return counted(self.ways.most(by, k))
 
+    def mark(self):
+        if len(self.marks) == MOST_MARKS:
+            return [FULL]
+        self.marks.append(self.ways.live_sums())
+        return [len(self.marks) - 1]
 
-def answer_to(book, call, given):
-    """The answer to one call."""
-    if call <= MOVED:
-        return answer_to_change(book, call, given)
-    return answer_to_question(book, call, given)
+    def since(self, m):
+        if not within(m, len(self.marks) - 1):
+            return [NOT_THERE]
+        return counted(self.ways.changes(self.marks[m]))
 
+    def holds(self, at):
+        if not within(at, MOST_PLACE):
+            return [OUT_OF_RANGE]
+        piece = self.pieces.holder(at)
+        if piece is None:
+            return [NOT_THERE]
+        return [piece.number, piece.place, piece.size, piece.owner]
 
-def first_given(calls, at):
-    """Where what is handed to the call at this index begins."""
-    return at + 2 if calls[at] == FIND else at + 1
+    def weighed(self, what):
+        """For each piece that lives its size or age, and what it weighs in a share."""
+        living = self.pieces.living()
+        if what == PIECES_BY_SIZE:
+            return [(piece.size, 1) for piece in living]
+        if what == BYTES_BY_SIZE:
+            return [(piece.size, piece.size) for piece in living]
+        return [(self.time - piece.born, 1) for piece in living]
 
+    def share(self, what, p):
+        if not within(what, PIECES_BY_AGE) or not 1 <= p <= WHOLE:
+            return [OUT_OF_RANGE]
+        least = least_reaching(self.weighed(what), p)
+        return [least] if least == NOT_THERE else [0, least]
 
-def end_given(calls, at):
-    """Where what is handed to the call at this index ends."""
-    if calls[at] == FIND:
-        return at + 2 + calls[at + 1]
-    return at + 1 + NUMBERS_BEHIND[calls[at]]
+    def pick(self, rate):
+        if not within(rate, MOST_RATE):
+            return [OUT_OF_RANGE]
+        self.picks.start(rate)
+        return [self.picks.total]
+
+    def picked(self):
+        return counted(self.picks.of_nodes())
+
+    def lines(self, what):
+        if not within(what, OWN_MADE):
+            return [OUT_OF_RANGE]
+        text = self.ways.text(what)
+        if len(text) > MOST_TEXT:
+            return [FULL]
+        return [len(text)] + [ord(sign) for sign in text]
 
 
 def answers(calls):
@@ -195,8 +225,8 @@ def answers(calls):
     at = 0
     while at < len(calls):
         call = calls[at]
-        # path is the last of the calls
-        if not within(call, PATH):
+        # lines is the last of the calls
+        if not within(call, LINES):
             raise UnknownCall(f"no call has the number {call}")
         end = end_given(calls, at)
         answer = answer_to(book, call, calls[first_given(calls, at):end])

@@ -4,9 +4,17 @@ MOST_WHO = 65535
 MOST_DEPTH = 64
 MOST_NODES = 4096
 MOST_PIECES = 65536
+MOST_MARKS = 64
+# how many pieces or nodes may be asked for at once
+MOST_ASKED = 1024
+# of a text, in bytes
+MOST_TEXT = 1048576
+# what share counts as all
+WHOLE = 10000
 # 2^32 - 1
 MOST_TICK = 4294967295
 MOST_SIZE = 4294967295
+MOST_RATE = 4294967295
 # 2^40 - 1
 MOST_PLACE = 1099511627775
 # 2^63: times and sums stay below it

@@ -36,6 +36,15 @@ class Pieces:
         """Whether a piece that lives has this place."""
         return place in self.by_place
 
+    def living(self):
+        """All pieces that live."""
+        return list(self.by_place.values())
+
+    def eldest(self, k):
+        """The k pieces that have lived longest, all if there are fewer."""
+        # time never goes back, so an older piece has a lower number
+        return sorted(self.living(), key=lambda piece: piece.number)[:k]
+
     def rank(self, place):
         """How many pieces have a lower place."""
         low = 0
@@ -47,6 +56,15 @@ class Pieces:
             else:
                 high = middle
         return low
+
+    def holder(self, at):
+        """The piece that lives and has the byte at this place, or None."""
+        # pieces never overlap, so it can only be the nearest that doesn't begin behind the byte
+        behind = self.rank(at + 1)
+        if behind == 0:
+            return None
+        piece = self.by_place[self.places[behind - 1]]
+        return piece if at < piece.place + piece.size else None
 
     def is_free(self, place, size, left_out):
         """Whether a piece may lie here, as if the one at the place left_out were not there."""

@@ -2,6 +2,12 @@
 
 from piecebook.limits import FULL, MOST_DEPTH, MOST_NODES, NOT_SO_LONG, NOT_THERE
 
+# which of a node's sums is meant
+OWN_LIVE = 0
+OWN_MADE = 1
+OWN_PEAK = 2
+ALL_LIVE = 3
+
 
 class Node:
     """One way: its last who behind the node above, its own sums and those with all below."""
@@ -18,6 +24,17 @@ class Node:
         self.all_live_pieces = 0
         self.all_live_bytes = 0
         self.all_made_bytes = 0
+
+
+def sum_of(node, by):
+    """One of a node's sums of bytes."""
+    if by == OWN_LIVE:
+        return node.live_bytes
+    if by == OWN_MADE:
+        return node.made_bytes
+    if by == OWN_PEAK:
+        return node.peak_bytes
+    return node.all_live_bytes
 
 
 class Ways:
@@ -105,3 +122,42 @@ class Ways:
         for node in self.nodes_up(k):
             node.all_live_pieces += more_pieces
             node.all_live_bytes += more_bytes
+
+    def sums(self, by):
+        """For each node in order that has some: it, and how much."""
+        found = []
+        for k, node in enumerate(self.nodes):
+            much = sum_of(node, by)
+            if much > 0:
+                found.append((k, much))
+        return found
+
+    def most(self, by, k):
+        """The k nodes with most, all that have some if there are fewer: each, and how much."""
+        # sorted leaves those with as much in their order: the lower number first
+        return sorted(self.sums(by), key=lambda pair: -pair[1])[:k]
+
+    def line(self, k, much):
+        """A node's line in a text: its way, and how much."""
+        way = ";".join([str(who) for who in self.whos(k)])
+        return f"{way} {much}\n"
+
+    def text(self, by):
+        """A line for each node in order that has some."""
+        return "".join([self.line(k, much) for k, much in self.sums(by)])
+
+    def live_sums(self):
+        """For each node in order: own live pieces, own live bytes."""
+        return [(node.live_pieces, node.live_bytes) for node in self.nodes]
+
+    def changes(self, before):
+        """For each node in order whose live sums are others than before: it, pieces more, bytes more."""
+        # a node that has come since then had nothing
+        then = before + [(0, 0)] * (len(self.nodes) - len(before))
+        found = []
+        for k, node in enumerate(self.nodes):
+            more_pieces = node.live_pieces - then[k][0]
+            more_bytes = node.live_bytes - then[k][1]
+            if more_pieces != 0 or more_bytes != 0:
+                found.append((k, more_pieces, more_bytes))
+        return found

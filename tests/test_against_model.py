@@ -7,6 +7,9 @@ from tests.helper import HUGE, PLACE, SIZE, Model, ask
 
 NAMES = ["enter"] * 4 + ["leave"] * 2 + ["unwind", "tick", "tick"] + ["made"] * 8 + ["went"] * 4 + ["moved"] * 5
 NAMES += ["now"] * 3 + ["node"] * 4 + ["find", "path"]
+NAMES += ["sizes", "ages", "oldest", "top", "top", "mark", "since", "since", "holds", "holds", "share", "share", "pick",
+          "picked", "lines"]
+ALONE = ("leave", "now", "sizes", "ages", "mark", "picked")
 
 
 def a_place(draw, low):
@@ -21,25 +24,44 @@ def a_who(draw):
     return draw.choice([draw.randrange(3)] * 12 + [65535, 65536, HUGE])
 
 
+def a_count(draw):
+    return draw.choice([draw.randrange(5)] * 4 + [1023, 1024, 1025, HUGE])
+
+
+def given_to(draw, name, low):
+    """What is handed to a call of this name."""
+    if name in ALONE:
+        return ()
+    if name == "find":
+        return ([a_who(draw) for step in range(draw.randrange(4))],)
+    if name == "enter":
+        return (a_who(draw),)
+    if name == "unwind":
+        return (draw.choice([0, 1, 2, 3, 4, 64, 65]),)
+    if name == "tick":
+        return (draw.choice([0, 1, 2, 3, 9, 70, SIZE, SIZE + 1]),)
+    if name == "made":
+        return (a_place(draw, low), a_size(draw))
+    if name in ("went", "holds"):
+        return (a_place(draw, low),)
+    if name == "moved":
+        return (a_place(draw, low), a_place(draw, low), a_size(draw))
+    if name == "oldest":
+        return (a_count(draw),)
+    if name == "top":
+        return (draw.randrange(5), a_count(draw))
+    if name == "share":
+        return (draw.randrange(4), draw.choice([0, 1, 2, 2500, 3333, 5000, 6667, 9999, 10000, 10001]))
+    if name == "pick":
+        return (draw.choice([0, 1, 2, 3, 7, 40, 1000, SIZE, SIZE + 1]),)
+    if name == "lines":
+        return (draw.choice([0, 0, 1, 1, 2]),)
+    return (draw.choice([draw.randrange(8)] * 9 + [HUGE]),)
+
+
 def a_call(draw, low):
     name = draw.choice(NAMES)
-    if name in ("leave", "now"):
-        return (name,)
-    if name == "enter":
-        return (name, a_who(draw))
-    if name == "unwind":
-        return (name, draw.choice([0, 1, 2, 3, 4, 64, 65]))
-    if name == "tick":
-        return (name, draw.choice([0, 1, 2, 3, SIZE, SIZE + 1]))
-    if name == "made":
-        return (name, a_place(draw, low), a_size(draw))
-    if name == "went":
-        return (name, a_place(draw, low))
-    if name == "moved":
-        return (name, a_place(draw, low), a_place(draw, low), a_size(draw))
-    if name == "find":
-        return (name, [a_who(draw) for step in range(draw.randrange(4))])
-    return (name, draw.choice([draw.randrange(8)] * 9 + [HUGE]))
+    return (name, *given_to(draw, name, low))
 
 
 class AgainstModel(unittest.TestCase):

@@ -22,6 +22,8 @@ namedtuple NamedTuple TypedDict TYPE_CHECKING abstractmethod""".split())
 
 UNUSED = set("register mro elements open input version_info with_traceback add_note".split())
 
+VALUES = set("count index title find get join lower upper split strip copy add".split())
+
 SPECIAL = {"__init__", "__eq__", "__repr__", "__str__", "__len__"}
 
 STATEMENTS = (ast.Assign, ast.AugAssign, ast.If, ast.While, ast.For, ast.Return, ast.Break, ast.Continue, ast.Pass,
@@ -105,6 +107,44 @@ class Language(unittest.TestCase):
         for name, part in walked():
             if isinstance(part, ast.Attribute):
                 self.assertIn(part.attr, methods | values | METHODS, name)
+
+    def test_own_names_are_not_those_of_python_s_own_values(self):
+        taken = set()
+        for kind in (str, int, list, tuple, dict, set, frozenset, bytes, bytearray):
+            taken |= set(dir(kind))
+        for name, part in walked():
+            if isinstance(part, ast.ClassDef):
+                methods = {inner.name for inner in part.body if isinstance(inner, ast.FunctionDef)}
+                self.assertEqual(methods & taken - SPECIAL - METHODS - {"add", "discard"}, set(), name)
+            if isinstance(part, ast.Attribute) and isinstance(part.ctx, ast.Store):
+                self.assertNotIn(part.attr, taken - VALUES, name)
+
+    def test_no_local_is_called_like_a_name_of_python_s_own_or_an_import(self):
+        for path in FILES:
+            tree = ast.parse(path.read_text())
+            drawn = {given.name for part in ast.walk(tree) if isinstance(part, ast.ImportFrom) for given in part.names}
+            drawn |= {part.name for part in ast.walk(tree) if isinstance(part, ast.ClassDef)}
+            for part in ast.walk(tree):
+                if isinstance(part, ast.arg):
+                    self.assertNotIn(part.arg, drawn, path.name)
+                if isinstance(part, ast.Name) and isinstance(part.ctx, ast.Store):
+                    self.assertNotIn(part.id, drawn, path.name)
+
+    def test_files_draw_from_files_that_do_not_draw_back(self):
+        draws = {}
+        for path in FILES:
+            draws[path.stem] = {part.module.split(".")[1] for part in ast.walk(ast.parse(path.read_text()))
+                                if isinstance(part, ast.ImportFrom)}
+        while draws:
+            free = [name for name in draws if not draws[name] & set(draws)]
+            self.assertNotEqual(free, [], draws)
+            for name in free:
+                draws.pop(name)
+
+    def test_no_power_of_a_name(self):
+        for name, part in walked():
+            if isinstance(part, ast.BinOp) and isinstance(part.op, (ast.Pow, ast.LShift)):
+                self.assertIsInstance(part.right, ast.Constant, name)
 
     def test_each_top_name_once(self):
         for path in FILES:

@@ -16,6 +16,18 @@ class Begin(unittest.TestCase):
         self.assertEqual(found[7:], ask(*probes))
         self.assertEqual(found[7], [0, 0, 0, 0, 0, 0, 0, 0, 0])
 
+    def test_all_that_a_book_keeps_is_as_at_first(self):
+        book = Book()
+        book.pick(3)
+        book.enter(3)
+        book.made(0, 8)
+        book.made(8, 8)
+        book.tick(5)
+        book.went(0)
+        book.mark()
+        self.assertEqual(book.begin(), [0])
+        self.assertEqual(state(book), state(Book()))
+
 
 class Tick(unittest.TestCase):
     def test_time_goes_on(self):
